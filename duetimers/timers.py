@@ -1,0 +1,43 @@
+"""The interface: a list of calls is handed in, the list of their answers is given back."""
+
+from duetimers.book import TimerBook
+
+BEGIN = 1
+SET = 2
+AFTER = 3
+AWAY = 4
+AWAY_ALL = 5
+LOOK = 6
+
+# By a call's number, how many whole numbers stand behind it; 7 is next.
+HOW_MANY_NUMBERS = {1: 1, 2: 4, 3: 4, 4: 1, 5: 1, 6: 1, 7: 0}
+
+
+def answers(calls):
+    book = TimerBook()
+    told = []
+    place = 0
+    while place < len(calls):
+        call = calls[place]
+        end = place + 1 + HOW_MANY_NUMBERS[call]
+        answer = answer_one(book, call, calls[place + 1:end])
+        told.append(len(answer))
+        told.extend(answer)
+        place = end
+    return told
+
+
+def answer_one(book, call, numbers):
+    if call == BEGIN:
+        return book.begin(numbers[0])
+    if call == SET:
+        return book.put(numbers[0], numbers[1], numbers[2], numbers[3])
+    if call == AFTER:
+        return book.put_after(numbers[0], numbers[1], numbers[2], numbers[3])
+    if call == AWAY:
+        return book.away(numbers[0])
+    if call == AWAY_ALL:
+        return book.away_all(numbers[0])
+    if call == LOOK:
+        return book.look(numbers[0])
+    return book.first_due()
