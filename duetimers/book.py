@@ -10,6 +10,7 @@ MOST_TIMERS = 65536
 
 TOO_HIGH = -1
 NOT_THERE = -2
+NOT_FITTING = -4
 NO_ROOM = -5
 
 
@@ -92,6 +93,93 @@ class TimerBook:
         if len(self.waiting) == 0:
             return [NOT_THERE]
         return [0, self.waiting[0][0]]
+
+    # 8: the call time
+    def come_due(self, now, most):
+        if now > HIGHEST_TIME:
+            return [TOO_HIGH]
+        if now < self.now:
+            return [NOT_FITTING]
+        self.now = now
+        coming = self.waiting[:self.how_many_come(most)]
+        self.waiting = self.waiting[len(coming):]
+        told = [len(coming)]
+        for place in coming:
+            told.extend(self.come(self.by_name[place[2]]))
+        return told
+
+    # 9: the call count
+    def how_many(self):
+        return [len(self.waiting), len(self.by_name) - len(self.waiting)]
+
+    # 10
+    def later(self, name, by):
+        if name not in self.by_name:
+            return [NOT_THERE]
+        timer = self.by_name[name]
+        if timer.held:
+            return [NOT_FITTING]
+        if timer.due + by > HIGHEST_TIME:
+            return [TOO_HIGH]
+        self.leave_line(timer)
+        self.line_up(timer, timer.due + by)
+        return [0]
+
+    # 11
+    def hold(self, name):
+        if name not in self.by_name:
+            return [NOT_THERE]
+        timer = self.by_name[name]
+        if timer.held:
+            return [NOT_FITTING]
+        self.leave_line(timer)
+        timer.held = True
+        timer.left = max(timer.due - self.now, 0)
+        return [0]
+
+    # 12
+    def go_on(self, name):
+        if name not in self.by_name:
+            return [NOT_THERE]
+        timer = self.by_name[name]
+        if not timer.held:
+            return [NOT_FITTING]
+        if self.now + timer.left > HIGHEST_TIME:
+            return [TOO_HIGH]
+        timer.held = False
+        self.line_up(timer, self.now + timer.left)
+        return [0]
+
+    # 13: the call list
+    def in_order(self, start, most):
+        shown = self.waiting[start:start + most]
+        told = [len(shown)]
+        for place in shown:
+            timer = self.by_name[place[2]]
+            told.extend([timer.name, timer.due, timer.every, timer.tag])
+        return told
+
+    def how_many_come(self, most):
+        # No more than MOST_TIMERS can come: there are no more, and one that's set again is due later than now.
+        highest = min(most, len(self.waiting))
+        many = 0
+        while many < highest and self.waiting[many][0] <= self.now:
+            many = many + 1
+        return many
+
+    # It has left the line before this: so it's dropped from by_name too, or lined up again.
+    def come(self, timer):
+        due = timer.due
+        if timer.every == 0:
+            self.by_name.pop(timer.name)
+            return [timer.name, timer.tag, due, 0]
+        left_out = (self.now - due) // timer.every
+        due_again = due + (left_out + 1) * timer.every
+        if due_again > HIGHEST_TIME:
+            self.by_name.pop(timer.name)
+        else:
+            self.line_up(timer, due_again)
+        return [timer.name, timer.tag, due, left_out]
 
     def line_up(self, timer, due):
         self.turns = self.turns + 1

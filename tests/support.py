@@ -37,6 +37,30 @@ def first():
     return [7]
 
 
+def time(now, most=65536):
+    return [8, now, most]
+
+
+def count():
+    return [9]
+
+
+def later(name, by):
+    return [10, name, by]
+
+
+def hold(name):
+    return [11, name]
+
+
+def go_on(name):
+    return [12, name]
+
+
+def listed(start=0, most=65536):
+    return [13, start, most]
+
+
 def joined(calls):
     return [number for call in calls for number in call]
 
@@ -57,6 +81,13 @@ def split(numbers):
 def answered(*calls):
     """What each of the calls on one new set of timers answers."""
     return split(answers(joined(calls)))
+
+
+def names_of(answer):
+    """The names in what time or list answers."""
+    if len(answer) != 1 + 4 * answer[0]:
+        raise AssertionError(f"not how many, and four numbers for each: {answer!r}")
+    return answer[1::4]
 
 
 def first_difference(got, want):

@@ -1,26 +1,19 @@
-"""What a list of calls can't reach: the most timers there may be, and held ones."""
+"""What a list of calls can't reach: the most timers there may be."""
 
 import unittest
 
 from duetimers.book import TimerBook
-from support import TOP_NAME, TOP_NUMBER, TOP_TIME
+from support import TOP_NAME, TOP_NUMBER, TOP_TIME, first_difference
 
 MOST = 65536
 
 
-def full_book():
+def full_book(every=0):
     book = TimerBook()
     for name in range(MOST):
-        if book.put(name, 10, 0, name % 2) != [0]:
+        if book.put(name, 10, every, name % 2) != [0]:
             raise AssertionError(f"timer {name} was not taken")
     return book
-
-
-def hold_by_hand(book, name, left):
-    timer = book.by_name[name]
-    book.leave_line(timer)
-    timer.held = True
-    timer.left = left
 
 
 class Full(unittest.TestCase):
@@ -60,57 +53,39 @@ class Full(unittest.TestCase):
 
     def test_held_ones_are_among_them(self):
         book = full_book()
-        hold_by_hand(book, 0, 7)
+        self.assertEqual(book.hold(0), [0])
+        self.assertEqual(book.how_many(), [MOST - 1, 1])
         self.assertEqual(book.put(MOST, 1, 0, 0), [-5])
         self.assertEqual(book.put(0, 1, 0, 0), [1])
         self.assertEqual(book.put(MOST, 1, 0, 0), [-5])
+        self.assertEqual(book.hold(5), [0])
+        self.assertEqual(book.away(5), [0])
+        self.assertEqual(book.put(MOST, 1, 0, 0), [0])
 
 
-class Held(unittest.TestCase):
-    def setUp(self):
-        self.book = TimerBook()
-        self.book.put(1, 10, 20, 30)
-        self.book.put(2, 40, 50, 60)
-        hold_by_hand(self.book, 1, 7)
+class AllDue(unittest.TestCase):
+    """More may be due than one list of calls can set."""
 
-    def test_look(self):
-        self.assertEqual(self.book.look(1), [1, 7, 20, 30])
+    def test_as_many_come_as_there_are(self):
+        want = [MOST] + [number for name in range(MOST) for number in (name, name % 2, 10, 0)]
+        for most in (MOST, MOST + 1, TOP_NUMBER):
+            book = full_book()
+            self.assertIsNone(first_difference(book.come_due(10, most), want))
+            self.assertEqual(book.how_many(), [0, 0])
+            self.assertEqual(book.put(MOST, 1, 0, 0), [0])
 
-    def test_it_is_before_nobody(self):
-        self.assertEqual(self.book.look(2), [0, 0, 40, 50, 60])
+    def test_the_rest_come_at_the_next_time(self):
+        book = full_book()
+        self.assertEqual(book.come_due(10, MOST - 1)[0], MOST - 1)
+        self.assertEqual(book.how_many(), [1, 0])
+        self.assertEqual(book.come_due(10, MOST - 1), [1, MOST - 1, 1, 10, 0])
 
-    def test_next_passes_it_over(self):
-        self.assertEqual(self.book.first_due(), [0, 40])
-        self.book.away(2)
-        self.assertEqual(self.book.first_due(), [-2])
-
-    def test_set_by_its_name(self):
-        self.assertEqual(self.book.put(1, 50, 0, 0), [1])
-        self.assertEqual(self.book.look(1), [0, 1, 50, 0, 0])
-        self.assertEqual(self.book.away_all(30), [0])
-
-    def test_after_by_its_name(self):
-        self.assertEqual(self.book.put_after(1, 3, 0, 0), [1])
-        self.assertEqual(self.book.look(1), [0, 0, 3, 0, 0])
-
-    def test_a_refused_set_leaves_it(self):
-        self.assertEqual(self.book.put(1, TOP_NUMBER, 0, 0), [-1])
-        self.assertEqual(self.book.look(1), [1, 7, 20, 30])
-
-    def test_away(self):
-        self.assertEqual(self.book.away(1), [0])
-        self.assertEqual(self.book.look(1), [-2])
-        self.assertEqual(self.book.look(2), [0, 0, 40, 50, 60])
-
-    def test_away_all(self):
-        self.book.put(3, 5, 0, 30)
-        self.assertEqual(self.book.away_all(30), [2])
-        self.assertEqual(self.book.look(1), [-2])
-        self.assertEqual(self.book.look(2), [0, 0, 40, 50, 60])
-
-    def test_begin(self):
-        self.assertEqual(self.book.begin(0), [0])
-        self.assertEqual(self.book.look(1), [-2])
+    def test_those_due_again_come_once_and_stay(self):
+        book = full_book(every=1)
+        self.assertEqual(book.come_due(1000, TOP_NUMBER)[:5], [MOST, 0, 0, 10, 990])
+        self.assertEqual(book.how_many(), [MOST, 0])
+        self.assertEqual(book.put(MOST, 1, 0, 0), [-5])
+        self.assertEqual(book.in_order(MOST - 1, TOP_NUMBER), [1, MOST - 1, 1001, 1, 1])
 
 
 if __name__ == "__main__":
